@@ -104,14 +104,14 @@ class WhateverBecomesOfMessagesTest(unittest.TestCase):
 
     def stray_call(self, source, size):
         """A call that says, carries, loses or ticks, at random but the same in every run."""
-        kind = source.randrange(10)
+        kind = source.randrange(20)
         member = source.randrange(size)
         place = source.randrange(6)
-        if kind < 3:
+        if kind < 4:
             return say(member)
-        if kind < 7:
+        if kind < 15:
             return carry(place, member)
-        return lose(place) if kind < 9 else tick(member)
+        return lose(place) if kind < 18 else tick(member)
 
     def play_through(self, seed):
         source = random.Random(seed)
@@ -119,7 +119,7 @@ class WhateverBecomesOfMessagesTest(unittest.TestCase):
         play = Play(size, [open_group(size)])
         number_of = [None] * size
         brought = {}
-        for _ in range(60):
+        for _ in range(250):
             if source.randrange(4) == 0:
                 self.begin_one(source, play, number_of, brought)
             else:
@@ -151,11 +151,15 @@ class WhateverBecomesOfMessagesTest(unittest.TestCase):
         self.assertLessEqual(max(at) - min(at), 1)
 
     def test_members_are_never_more_than_one_number_apart(self):
-        for seed in range(12):
-            self.play_through(seed)
+        reached = []
+        for seed in range(8):
+            _, number_of, _ = self.play_through(seed)
+            reached.append(max(number_of))
+        # Else nothing would have been seen.
+        self.assertGreater(max(reached), 2)
 
     def test_two_rounds_make_all_whole_at_the_lowest_number(self):
-        for seed in range(12):
+        for seed in range(8):
             play, number_of, _ = self.play_through(seed)
             for place in range(64):
                 play.calls.append(lose(place))
