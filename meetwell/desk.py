@@ -1,6 +1,6 @@
 """The desk: takes calls that are written one behind another, and writes their answers likewise."""
 
-from meetwell.hall import Hall
+from meetwell.hall import Hall, outcome_of
 from meetwell.meeting import Meeting
 
 OPEN = 1
@@ -9,9 +9,15 @@ SAY = 3
 CARRY = 4
 LOSE = 5
 MESSAGE = 6
+TICK = 7
+FORGET = 8
+RESULT = 9
+STATE = 10
+KNOT = 12
+OF = 13
 
 # By call: how many whole numbers stand behind it, ahead of its row.
-NUMBER_COUNTS = {1: 1, 2: 4, 3: 1, 4: 2, 5: 1, 6: 1, 7: 1}
+NUMBER_COUNTS = {1: 1, 2: 4, 3: 1, 4: 2, 5: 1, 6: 1, 7: 1, 8: 1, 9: 1, 10: 1, 11: 1, 12: 0, 13: 5}
 
 
 def answers(calls):
@@ -24,7 +30,7 @@ def answers(calls):
         behind = at + 1 + NUMBER_COUNTS[call]
         numbers = calls[at + 1:behind]
         row = []
-        if call == BEGIN:
+        if call == BEGIN or call == OF:
             row_start = behind + 1
             behind = row_start + calls[behind]
             row = calls[row_start:behind]
@@ -36,18 +42,34 @@ def answers(calls):
 
 
 def answer(hall, call, numbers, row):
-    first = numbers[0]
     if call == OPEN:
-        return hall.open_group(first)
+        return hall.open_group(numbers[0])
     if call == BEGIN:
-        return hall.begin(first, Meeting(numbers[1], numbers[2], numbers[3]), row)
-    if call == SAY:
-        return hall.say(first)
+        return hall.begin(numbers[0], Meeting(numbers[1], numbers[2], numbers[3]), row)
     if call == CARRY:
-        return hall.carry(first, numbers[1])
+        return hall.carry(numbers[0], numbers[1])
     if call == LOSE:
-        return hall.lose(first)
+        return hall.lose(numbers[0])
     if call == MESSAGE:
-        return hall.show(first)
-    # Only tick is left: no other call has its numbers counted above.
-    return hall.tick(first)
+        return hall.show(numbers[0])
+    if call == KNOT:
+        return hall.show_knot()
+    if call == OF:
+        return outcome_of(Meeting(numbers[0], numbers[1], numbers[2]), numbers[3], numbers[4], row)
+    return answer_of_member(hall, call, numbers[0])
+
+
+def answer_of_member(hall, call, i):
+    """The calls that name a member alone."""
+    if call == SAY:
+        return hall.say(i)
+    if call == TICK:
+        return hall.tick(i)
+    if call == FORGET:
+        return hall.forget(i)
+    if call == RESULT:
+        return hall.show_result(i)
+    if call == STATE:
+        return hall.show_state(i)
+    # Only list is left: there is no call above 13.
+    return hall.show_list(i)

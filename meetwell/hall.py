@@ -1,7 +1,9 @@
 """The hall: a group of members, the places where messages lie, and the calls on both."""
 
 from meetwell.codes import DONE, MISFIT, NO_ROOM, NO_SUCH, NOTHING_THERE, WRONG_STATE
+from meetwell.knot import find_knot
 from meetwell.member import Member
+from meetwell.outcome import make_outcome, split_by_members
 
 MOST_MEMBERS = 8
 PLACE_COUNT = 64
@@ -19,7 +21,7 @@ class Hall:
         return i < len(self.members)
 
     def open_group(self, n):
-        if n < 1 or n > MOST_MEMBERS:
+        if not is_size(n):
             return [NO_SUCH]
         self.members = [Member(me, n) for me in range(n)]
         self.places = [None] * PLACE_COUNT
@@ -83,6 +85,51 @@ class Hall:
             return [WRONG_STATE]
         member.tick()
         return [member.owed_count()]
+
+    def forget(self, i):
+        if not self.has_member(i):
+            return [NO_SUCH]
+        member = self.members[i]
+        if member.is_idle():
+            return [WRONG_STATE]
+        member.forget()
+        return [DONE]
+
+    def show_result(self, i):
+        if not self.has_member(i):
+            return [NO_SUCH]
+        member = self.members[i]
+        if not member.is_whole():
+            return [MISFIT]
+        return [DONE] + member.result()
+
+    def show_state(self, i):
+        if not self.has_member(i):
+            return [NO_SUCH]
+        return self.members[i].state_numbers()
+
+    def show_list(self, i):
+        if not self.has_member(i):
+            return [NO_SUCH]
+        return self.members[i].list_numbers()
+
+    def show_knot(self):
+        if len(self.members) == 0:
+            return [NO_SUCH]
+        return find_knot(self.members)
+
+
+def is_size(n):
+    return 1 <= n and n <= MOST_MEMBERS
+
+
+def outcome_of(meeting, size, me, numbers):
+    """The call of: the result on member me where those parts of all are brought; it needs no group."""
+    if not is_size(size) or me >= size or not meeting.fits(size) or not are_part_numbers(numbers):
+        return [NO_SUCH]
+    if len(numbers) != meeting.length_of_all(size):
+        return [MISFIT]
+    return [DONE] + make_outcome(meeting, split_by_members(meeting, size, numbers), me)
 
 
 def are_part_numbers(part):

@@ -1,5 +1,8 @@
 """What a meeting is, and how long each member's part of it is."""
 
+SUMS = 0
+LEAST = 1
+GREATEST = 2
 ONE_FOR_ALL = 4
 EXCHANGE = 5
 NO_PARTS = 6
@@ -37,3 +40,7 @@ class Meeting:
         if self.op == MAPS:
             return 2 * self.count
         return self.count
+
+    def length_of_all(self, size):
+        """How many numbers the parts of all have together in a group of that many."""
+        return sum([self.part_length(size, member) for member in range(size)])

@@ -1,7 +1,9 @@
 """One member of a group: where it is, what it has, and what it is to say."""
 
+from meetwell.codes import APART, BEGUN, IDLE, WHOLE
 from meetwell.codes import HAD_ALREADY, KEPT, LONG_PAST, MISFIT, NOT_YET, ONE_BELOW, OTHER_MEETING
 from meetwell.message import Message
+from meetwell.outcome import make_outcome
 
 
 class Member:
@@ -26,6 +28,10 @@ class Member:
     def is_whole(self):
         return len(self.parts) == self.size
 
+    def next_number(self):
+        """The number of the meeting that it would begin next."""
+        return self.number if self.is_idle() else self.number + 1
+
     def others(self):
         return [member for member in range(self.size) if member != self.me]
 
@@ -34,18 +40,28 @@ class Member:
         if not self.is_idle():
             self.leave_number()
         self.meeting = meeting
-        self.parts = {self.me: part}
-        self.known = {self.me: True}
+        self.keep_own_part_alone(part)
         self.owed = {}
         for other in self.others():
             self.owed[other] = True
 
+    def keep_own_part_alone(self, part):
+        self.parts = {self.me: part}
+        self.known = {self.me: True}
+
     def leave_number(self):
         # Others may still lack this part: it and those who are owed it stay for one number more.
-        self.number = self.number + 1
+        self.number = self.next_number()
         self.meeting_before = self.meeting
         self.part_before = self.parts[self.me]
         self.owed_before = self.owed
+
+    def forget(self):
+        """Be as one that has just brought its part, with nobody on the list; an idle one may not."""
+        self.keep_own_part_alone(self.parts[self.me])
+        self.apart = False
+        self.owed = {}
+        self.owed_before = {}
 
     def tick(self):
         for other in self.others():
@@ -102,3 +118,27 @@ class Member:
             return HAD_ALREADY
         self.parts[message.sender] = message.part
         return KEPT
+
+    def result(self):
+        """What comes out on this member, which is whole."""
+        return make_outcome(self.meeting, [self.parts[member] for member in range(self.size)], self.me)
+
+    def state(self):
+        if self.is_whole():
+            return WHOLE
+        if self.apart:
+            return APART
+        return IDLE if self.is_idle() else BEGUN
+
+    def state_numbers(self):
+        """Where it stands, number by number: a meeting and parts only if it is not idle."""
+        head = [self.state(), self.number]
+        if self.is_idle():
+            return head
+        meeting = self.meeting
+        head = head + [meeting.op, meeting.root, meeting.count, len(self.parts)]
+        return head + sorted(self.parts) + sorted(self.known)
+
+    def list_numbers(self):
+        """Its list, number by number: how many for the number before, they, then those for its own."""
+        return [len(self.owed_before)] + sorted(self.owed_before) + sorted(self.owed)

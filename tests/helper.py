@@ -5,7 +5,6 @@ import unittest
 from meetwell.desk import answers
 
 TOP = 2 ** 32 - 1
-NUMBER_COUNTS = {1: 1, 2: 4, 3: 1, 4: 2, 5: 1, 6: 1, 7: 1}
 
 
 def open_group(n):
@@ -34,6 +33,58 @@ def message(place):
 
 def tick(i):
     return [7, i]
+
+
+def forget(i):
+    return [8, i]
+
+
+def result(i):
+    return [9, i]
+
+
+def state(i):
+    return [10, i]
+
+
+def listed(i):
+    """The call list."""
+    return [11, i]
+
+
+def knot():
+    return [12]
+
+
+def of(op, root, c, n, me, parts):
+    return [13, op, root, c, n, me, len(parts)] + parts
+
+
+def part_length(op, c, n, is_root):
+    """As the document's table has it."""
+    return {0: c, 1: c, 2: c, 3: c, 4: c if is_root else 0, 5: n * c, 6: 0, 7: 2 * c}[op]
+
+
+def expected_result(op, root, c, me, parts):
+    """The document's table once more: parts is one list for each member."""
+    if op in (0, 1, 2):
+        make = {0: lambda column: sum(column) % 2 ** 32, 1: min, 2: max}[op]
+        return [make([part[k] for part in parts]) for k in range(c)]
+    if op == 4:
+        return parts[root]
+    if op == 5:
+        return [part[me * c + k] for part in parts for k in range(c)]
+    if op == 7:
+        made = []
+        for k in range(c):
+            # Where a map takes 0 and 1 tells all of it.
+            at_0, at_1 = 0, 1
+            for part in parts:
+                at_0 = part[2 * k] * at_0 + part[2 * k + 1]
+                at_1 = part[2 * k] * at_1 + part[2 * k + 1]
+            made += [(at_1 - at_0) % 2 ** 32, at_0 % 2 ** 32]
+        return made
+    return [number for part in parts for number in part]
 
 
 def split(written):
@@ -66,9 +117,52 @@ def read_message(row):
     }
 
 
+def read_state(row):
+    """The fields of what state answers."""
+    if row[0] == 0:
+        return {"state": 0, "number": row[1], "meeting": None, "parts": [], "known": []}
+    parts_end = 6 + row[5]
+    return {
+        "state": row[0], "number": row[1], "meeting": tuple(row[2:5]), "parts": row[6:parts_end],
+        "known": row[parts_end:],
+    }
+
+
+class Play:
+    """Calls added some at a time, so that the next may hang on the last answers."""
+
+    def __init__(self, size, calls):
+        self.size = size
+        self.calls = list(calls)
+
+    def do(self, calls):
+        self.calls = self.calls + calls
+        return run(self.calls)[len(self.calls) - len(calls):]
+
+    def peek(self, calls):
+        """What would be answered, with nothing added."""
+        return run(self.calls + calls)[len(self.calls):]
+
+    def answer(self, call):
+        return self.do([call])[0]
+
+    def states(self):
+        return [read_state(row) for row in self.peek([state(member) for member in range(self.size)])]
+
+    def round_of_messages(self):
+        """Each ticks, says its whole list, and all that's carried; what's carried is lost behind it."""
+        ticked = self.do([tick(member) for member in range(self.size)])
+        says = [say(member) for member in range(self.size) for _ in range(max(ticked[member][0], 0))]
+        said = [read_message(row) for row in self.do(says)]
+        self.do([carry(one["place"], one["to"]) for one in said])
+        self.do([lose(one["place"]) for one in said])
+
+
 def probes(size):
     """Calls that bring to light what members, lists and places hold."""
-    calls = [message(place) for place in range(64)]
+    calls = [message(place) for place in range(64)] + [knot()]
+    for member in range(size):
+        calls += [state(member), listed(member), result(member)]
     calls += [lose(63), lose(62)]
     for round_number in range(2):
         for member in range(size):
@@ -102,6 +196,9 @@ class CallTest(unittest.TestCase):
         later = probes(size)
         plain = run(before + later)[len(before):]
         self.assertEqual(run(with_more + later)[len(with_more):], plain)
+
+    def assert_state(self, calls, i, expected):
+        self.assert_last(calls + [state(i)], expected)
 
     def list_of(self, calls, i):
         """Who is on i's list behind these calls, in order: (to, number)."""

@@ -1,10 +1,16 @@
-"""The interface of answers, the document's examples, and what holds whatever becomes of the messages."""
-
-import random
-import unittest
+"""The interface of answers, and the document's examples."""
 
 from meetwell.desk import answers
-from tests.helper import CallTest, begin, carry, lose, message, open_group, read_message, run, say, tick
+from tests.helper import CallTest, Play, begin, carry, forget, knot, listed, lose, message, of, open_group
+from tests.helper import read_message, result, run, say, state, tick
+
+# Each of the thirteen calls, granted; behind it the answers.
+EACH_CALL = [
+    (open_group(2), [0]), (begin(0, 3, 0, 2, [7, 8]), [0]), (begin(1, 3, 0, 2, [9, 10]), [0]),
+    (say(0), [0, 0, 1, 0, 3, 0, 2, 1, 0, 7, 8]), (carry(0, 1), [0]), (message(0), [0, 0, 1, 0, 3, 0, 2, 1, 0, 7, 8]),
+    (tick(1), [1]), (listed(1), [0, 0]), (state(1), [2, 0, 3, 0, 2, 2, 0, 1, 1]), (result(1), [0, 7, 8, 9, 10]),
+    (knot(), [0]), (of(5, 0, 1, 2, 1, [1, 2, 3, 4]), [0, 2, 4]), (forget(1), [0]), (lose(0), [0]), (knot(), [0]),
+]
 
 
 class InterfaceTest(CallTest):
@@ -27,8 +33,16 @@ class InterfaceTest(CallTest):
         self.assertIs(list, given.__class__)
         self.assertEqual({number.__class__ for number in given}, {int})
 
+    def test_each_call(self):
+        self.assert_answers(EACH_CALL)
+
+    def test_each_call_number_by_number(self):
+        calls = [1, 1, 2, 0, 0, 0, 1, 1, 5, 8, 0, 9, 0, 10, 0, 11, 0, 12, 13, 4, 1, 1, 2, 0, 1, 6, 12]
+        expected = [1, 0, 1, 0, 1, 0, 2, 0, 5, 8, 2, 0, 0, 0, 1, 1, 0, 0, 1, 0, 1, 3, 2, 0, 6, 1, 3]
+        self.assertEqual(answers(calls), expected)
+
     def test_what_is_handed_in_stays(self):
-        calls = [1, 2, 2, 0, 0, 0, 2, 2, 7, 8, 2, 1, 0, 0, 2, 2, 9, 10, 3, 0, 4, 0, 1, 7, 1, 3, 1, 5, 0]
+        calls = [number for call, _ in EACH_CALL for number in call]
         copy = list(calls)
         given = answers(calls)
         self.assertEqual(calls, copy)
@@ -38,8 +52,16 @@ class InterfaceTest(CallTest):
     def test_nothing_is_kept(self):
         calls = [1, 2, 2, 0, 0, 0, 1, 1, 5, 3, 0]
         first = answers(calls)
-        self.assertEqual(answers([3, 0, 6, 0, 7, 0]), [1, -1, 1, -4, 1, -1])
+        self.assertEqual(answers([3, 0, 6, 0, 7, 0, 8, 0, 10, 0, 12]), [1, -1, 1, -4, 1, -1, 1, -1, 1, -1, 1, -1])
         self.assertEqual(answers(calls), first)
+
+    def test_two_runs_behind_one_another_answer_the_same(self):
+        calls = [number for call, _ in EACH_CALL for number in call]
+        first = answers(calls)
+        copy = list(first)
+        self.assertEqual(answers(calls), first)
+        first.clear()
+        self.assertEqual(answers(calls), copy)
 
     def test_a_thousand_calls(self):
         calls = [open_group(2), begin(0, 6, 0, 0, [])] + [say(0), lose(0), tick(0)] * 332 + [message(0), say(1)]
@@ -55,6 +77,7 @@ class ExampleTest(CallTest):
             (open_group(3), [0]),
             (begin(0, 0, 0, 2, [1, 2]), [0]),
             (begin(1, 0, 0, 2, [10, 20]), [0]),
+            (knot(), [1, 2, 0]),
             (say(0), [0, 0, 1, 0, 0, 0, 2, 1, 0, 1, 2]),
             (carry(0, 1), [0]),
             (carry(0, 1), [1]),
@@ -65,111 +88,16 @@ class ExampleTest(CallTest):
         ]
         self.assert_answers(calls)
         play = Play(3, [call for call, _ in calls])
+        # Once makes all whole; what's told of list 1 below wants what was asked for then to be said, too.
         play.round_of_messages()
+        self.assertEqual(play.peek([result(i) for i in range(3)]), [[0, 111, 222]] * 3)
         play.round_of_messages()
+        self.assertEqual(play.answer(result(0)), [0, 111, 222])
         self.assertEqual(play.answer(begin(1, 6, 0, 0, [])), [1])
-        # Place 0 is as what 0 would say had it forgotten all: of number 0, and its has lacks 1.
-        self.assertEqual(play.answer(carry(0, 1)), [3])
-        self.assertEqual(play.answer(tick(1)), [3])
-        said = [read_message(play.answer(say(1))) for _ in range(3)]
-        self.assertEqual([(one["to"], one["number"]) for one in said], [(0, 0), (0, 1), (2, 1)])
-        self.assertEqual(said[0]["part"], [10, 20])
-        self.assertEqual(said[0]["has"], [0, 1, 2])
-
-
-class Play:
-    """Calls added one by one, so that the next may hang on the last answer."""
-
-    def __init__(self, size, calls):
-        self.size = size
-        self.calls = list(calls)
-
-    def answer(self, call):
-        self.calls.append(call)
-        return run(self.calls)[-1]
-
-    def round_of_messages(self):
-        """Each ticks, says its whole list, and all that's carried."""
-        said = []
-        for member in range(self.size):
-            for _ in range(self.answer(tick(member))[0]):
-                said.append(read_message(self.answer(say(member))))
-        for one in said:
-            self.answer(carry(one["place"], one["to"]))
-        for one in said:
-            self.answer(lose(one["place"]))
-
-
-class WhateverBecomesOfMessagesTest(unittest.TestCase):
-
-    def stray_call(self, source, size):
-        """A call that says, carries, loses or ticks, at random but the same in every run."""
-        kind = source.randrange(20)
-        member = source.randrange(size)
-        place = source.randrange(6)
-        if kind < 4:
-            return say(member)
-        if kind < 15:
-            return carry(place, member)
-        return lose(place) if kind < 18 else tick(member)
-
-    def play_through(self, seed):
-        source = random.Random(seed)
-        size = source.randrange(2, 5)
-        play = Play(size, [open_group(size)])
-        number_of = [None] * size
-        brought = {}
-        for _ in range(250):
-            if source.randrange(4) == 0:
-                self.begin_one(source, play, number_of, brought)
-            else:
-                self.stray(source, play, brought)
-            self.check_distance(number_of)
-        return play, number_of, brought
-
-    def begin_one(self, source, play, number_of, brought):
-        member = source.randrange(play.size)
-        expected = 0 if number_of[member] is None else number_of[member] + 1
-        part = [source.randrange(1000)]
-        given = play.answer(begin(member, 3, 0, 1, part))
-        if given != [-8]:
-            self.assertEqual(given, [expected])
-            number_of[member] = expected
-            brought[(member, expected)] = part
-
-    def stray(self, source, play, brought):
-        call = self.stray_call(source, play.size)
-        given = play.answer(call)
-        if call[0] == 3 and len(given) > 1:
-            one = read_message(given)
-            self.assertEqual(one["part"], brought[(one["from"], one["number"])])
-            for member in one["has"]:
-                self.assertIn((member, one["number"]), brought)
-
-    def check_distance(self, number_of):
-        at = [0 if number is None else number for number in number_of]
-        self.assertLessEqual(max(at) - min(at), 1)
-
-    def test_members_are_never_more_than_one_number_apart(self):
-        reached = []
-        for seed in range(8):
-            _, number_of, _ = self.play_through(seed)
-            reached.append(max(number_of))
-        # Else nothing would have been seen.
-        self.assertGreater(max(reached), 2)
-
-    def test_two_rounds_make_all_whole_at_the_lowest_number(self):
-        for seed in range(8):
-            play, number_of, _ = self.play_through(seed)
-            for place in range(64):
-                play.calls.append(lose(place))
-            for member in range(play.size):
-                if number_of[member] is None:
-                    self.assertEqual(play.answer(begin(member, 3, 0, 1, [5])), [0])
-                    number_of[member] = 0
-            play.round_of_messages()
-            play.round_of_messages()
-            lowest = min(number_of)
-            for member in range(play.size):
-                if number_of[member] == lowest:
-                    self.assertEqual(play.answer(begin(member, 3, 0, 1, [6])), [lowest + 1])
+        self.assertEqual(play.answer(forget(0)), [0])
+        self.assertEqual(play.answer(tick(0)), [2])
+        said = read_message(play.answer(say(0)))
+        self.assertEqual((said["to"], said["number"], said["has"]), (1, 0, [0]))
+        self.assertEqual(play.answer(carry(said["place"], 1)), [3])
+        self.assertEqual(play.answer(listed(1)), [1, 0, 0, 2])
+        self.assertEqual(play.answer(of(7, 0, 1, 2, 0, [2, 3, 5, 7])), [0, 10, 22])

@@ -1,12 +1,6 @@
 from meetwell.hall import Hall
 from meetwell.meeting import Meeting
-from tests.helper import TOP, CallTest, begin, carry, lose, open_group, read_message, run, say, tick
-
-
-def part_length(op, c, n, is_root):
-    """As the document's table has it."""
-    return {0: c, 1: c, 2: c, 3: c, 4: c if is_root else 0, 5: n * c, 6: 0, 7: 2 * c}[op]
-
+from tests.helper import TOP, CallTest, begin, carry, lose, open_group, part_length, read_message, run, say, tick
 
 PAIR_BEGUN = [open_group(2), begin(0, 0, 0, 1, [5]), begin(1, 0, 0, 1, [6])]
 # Member 1 is whole and still has 0 on its list.
